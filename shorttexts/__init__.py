@@ -1,0 +1,1 @@
+"""Texts made short: LZ4 blocks, and frames around them."""

@@ -1,0 +1,111 @@
+import ast
+import contextlib
+import io
+import pathlib
+import unittest
+from unittest import mock
+
+from document import MOST, SIXTEEN, few_letters, frame_by_the_document
+from shorttexts import blocks
+
+PACKAGE = pathlib.Path(blocks.__file__).parent
+
+
+class Watched(list):
+    """A list that tells of every change, even of one that is taken back."""
+
+    def refuse(self, *told):
+        raise AssertionError("what was handed in was changed")
+
+    __setitem__ = __delitem__ = __iadd__ = __imul__ = refuse
+    append = extend = insert = pop = remove = clear = sort = reverse = refuse
+
+
+def some_texts():
+    return [[], [1], list(range(40)), [0] * 500, few_letters(700, 2), few_letters(66000, 256)]
+
+
+class Calls(unittest.TestCase):
+    def test_what_is_handed_in_is_not_changed(self):
+        for text in some_texts():
+            for flags in (0, 5, 10, 15):
+                for most in (MOST, 3, -1):
+                    handed = list(text)
+                    blocks.pack(flags, most, handed)
+                    self.assertEqual(handed, text)
+
+    def test_what_is_handed_in_is_not_changed_for_a_while_either(self):
+        for text in some_texts():
+            for flags in (0, 15):
+                self.assertEqual(blocks.pack(flags, MOST, Watched(text)), blocks.pack(flags, MOST, text))
+
+    def test_what_is_given_back_is_the_caller_s_own(self):
+        text = list(range(40))
+        answer = blocks.pack(0, MOST, text)
+        kept = list(answer)
+        answer.clear()
+        self.assertEqual(text, list(range(40)))
+        self.assertEqual(blocks.pack(0, MOST, text), kept)
+        refusal = blocks.pack(16, MOST, text)
+        refusal.append(1)
+        self.assertEqual(blocks.pack(16, MOST, text), [-8])
+
+    def test_the_same_call_twice_gives_the_same_answer(self):
+        first = [blocks.pack(flags, MOST, text) for text in some_texts() for flags in SIXTEEN]
+        again = [blocks.pack(flags, MOST, text) for text in some_texts() for flags in SIXTEEN]
+        self.assertEqual(first, again)
+
+    def test_a_changed_text_gives_another_answer(self):
+        text = [0] * 300
+        for byte in (0, 1, 2):
+            text[200] = byte
+            self.assertEqual(blocks.pack(15, MOST, text)[1:], frame_by_the_document(15, text))
+
+    def test_a_list_of_whole_numbers_is_given_back(self):
+        for text in some_texts():
+            for flags, most in ((0, MOST), (15, MOST), (0, 3), (16, MOST)):
+                answer = blocks.pack(flags, most, text)
+                self.assertIs(type(answer), list)
+                self.assertEqual({type(number) for number in answer}, {int})
+                if answer[0] >= 0:
+                    self.assertEqual(answer[0], len(answer) - 1)
+                    self.assertTrue(all(0 <= number <= 255 for number in answer[1:]))
+
+    def test_the_arguments_are_called_as_told(self):
+        self.assertEqual(blocks.pack(flags=0, most=MOST, text=[]), blocks.pack(0, MOST, []))
+
+    def test_nothing_is_printed_read_or_imported(self):
+        out = io.StringIO()
+        refused = AssertionError("not asked for")
+        with contextlib.redirect_stdout(out), contextlib.redirect_stderr(out), \
+                mock.patch("builtins.open", side_effect=refused), \
+                mock.patch("builtins.input", side_effect=refused), \
+                mock.patch("builtins.__import__", side_effect=refused):
+            blocks.pack(15, MOST, [0] * 500)
+            blocks.pack(16, MOST, [0] * 500)
+            blocks.pack(0, 0, [0] * 500)
+        self.assertEqual(out.getvalue(), "")
+
+
+class Form(unittest.TestCase):
+    def test_only_the_package_s_own_is_imported(self):
+        for path in PACKAGE.glob("*.py"):
+            for node in ast.walk(ast.parse(path.read_text())):
+                self.assertNotIsInstance(node, ast.Import)
+                if isinstance(node, ast.ImportFrom):
+                    self.assertEqual(node.module.split(".")[0], "shorttexts")
+
+    def test_sizes_and_signs(self):
+        for path in PACKAGE.glob("*.py"):
+            source = path.read_text()
+            self.assertLessEqual({*source}, {"\n"} | {chr(sign) for sign in range(32, 127)})
+            rows = source.split("\n")
+            self.assertLessEqual(len(rows), 400)
+            self.assertLessEqual(max(map(len, rows)), 120)
+            for node in ast.walk(ast.parse(source)):
+                if isinstance(node, ast.FunctionDef):
+                    self.assertLessEqual(node.end_lineno - node.lineno + 1, 40, node.name)
+
+
+if __name__ == "__main__":
+    unittest.main()
