@@ -1,14 +1,19 @@
-"""LZ4 blocks of a text, frames around them, and the sums (xxHash of 32 bits) that they bear."""
+"""LZ4 blocks of a text, and frames around them: made, and read strictly."""
 
-WRONG_ARGUMENT = -8
+from shorttexts.sums import four_bytes_at, low_first, text_sum
+
+NOTHING_WRONG = 0
+NO_WHOLE_HEAD = -1
+WRONG_HEAD = -2
+WRONG_SUM = -3
+WRONG_BLOCKS = -4
+WRONG_PARTS = -5
+TEXT_TOO_LONG = -6
 TOO_LONG = -7
+WRONG_ARGUMENT = -8
+WRONG_LENGTH = -9
 
-MODULUS = 4294967296
-PRIME_1 = 2654435761
-PRIME_2 = 2246822519
-PRIME_3 = 3266489917
-PRIME_4 = 668265263
-PRIME_5 = 374761393
+LONGEST_TEXT = 1048576
 
 SHORTEST_MATCH = 4
 FARTHEST_BACK = 65535
@@ -18,7 +23,9 @@ LEFT_BEHIND_A_MATCH = 5
 FIRST_FOUR = (4, 34, 77, 24)
 BLOCK_SIZE = 65536
 BLOCK_SIZE_BYTE = 64
+BLOCK_SIZES = {64: 65536, 80: 262144, 96: 1048576, 112: 4194304}
 STANDS_FOR_ITSELF = 2147483648
+SHORTEST_HEAD = 7
 
 # The flags that pack is handed, and those that a frame's head bears.
 ASKED_TEXT_SUM = 1
@@ -26,6 +33,7 @@ ASKED_BLOCK_SUMS = 2
 ASKED_LENGTH = 4
 ASKED_LINKED = 8
 MOST_FLAGS = 15
+HEAD_FIXED_BITS = 195
 HEAD_VERSION = 64
 HEAD_ALONE = 32
 HEAD_BLOCK_SUMS = 16
@@ -35,52 +43,6 @@ HEAD_TEXT_SUM = 4
 # Two alphabets without a common letter: a search for whole bytes can't begin in the middle of one.
 HIGH_LETTERS = "ABCDEFGHIJKLMNOP"
 LOW_LETTERS = "abcdefghijklmnop"
-
-
-def low_first(number, count):
-    return [(number >> (8 * k)) & 255 for k in range(count)]
-
-
-def four_bytes_at(text, place):
-    return text[place] + (text[place + 1] << 8) + (text[place + 2] << 16) + (text[place + 3] << 24)
-
-
-def turned_left(number, count):
-    return ((number << count) | (number >> (32 - count))) % MODULUS
-
-
-def mixed(total, added, turn, factor):
-    return turned_left((total + added) % MODULUS, turn) * factor % MODULUS
-
-
-def sum_of_sixteens(seed, text):
-    sums = [seed + PRIME_1 + PRIME_2, seed + PRIME_2, seed, seed - PRIME_1]
-    for begin in range(0, len(text) - 15, 16):
-        for k in range(4):
-            sums[k] = mixed(sums[k], four_bytes_at(text, begin + 4 * k) * PRIME_2, 13, PRIME_1)
-    return turned_left(sums[0], 1) + turned_left(sums[1], 7) + turned_left(sums[2], 12) + turned_left(sums[3], 18)
-
-
-def with_bytes_left(total, text):
-    place = len(text) // 16 * 16
-    while place + 4 <= len(text):
-        total = mixed(total, four_bytes_at(text, place) * PRIME_3, 17, PRIME_4)
-        place += 4
-    while place < len(text):
-        total = mixed(total, text[place] * PRIME_5, 11, PRIME_1)
-        place += 1
-    return total
-
-
-def text_sum(seed, text):
-    if len(text) >= 16:
-        total = sum_of_sixteens(seed, text)
-    else:
-        total = seed + PRIME_5
-    total = with_bytes_left((total + len(text)) % MODULUS, text)
-    total = (total ^ (total >> 15)) * PRIME_2 % MODULUS
-    total = (total ^ (total >> 13)) * PRIME_3 % MODULUS
-    return total ^ (total >> 16)
 
 
 def mirrored_letters(text):
@@ -214,11 +176,15 @@ def head_flags(flags):
     return head
 
 
+def head_sum(summed):
+    return (text_sum(0, summed) >> 8) & 255
+
+
 def frame_head(flags, length):
     summed = [head_flags(flags), BLOCK_SIZE_BYTE]
     if (flags & ASKED_LENGTH) != 0:
         summed.extend(low_first(length, 8))
-    return list(FIRST_FOUR) + summed + [(text_sum(0, summed) >> 8) & 255]
+    return list(FIRST_FOUR) + summed + [head_sum(summed)]
 
 
 def framed_text(flags, text):
@@ -232,10 +198,163 @@ def framed_text(flags, text):
     return frame
 
 
+# Bytes that are read from their beginning on. Who takes some asks first how many are left.
+class Reader:
+    def __init__(self, source):
+        self.source = source
+        self.place = 0
+
+    def left(self):
+        return len(self.source) - self.place
+
+    def taken(self, count):
+        self.place += count
+        return self.source[self.place - count:self.place]
+
+    def number(self, count):
+        total = 0
+        for byte in reversed(self.taken(count)):
+            total = 256 * total + byte
+        return total
+
+    # What a half stands for with all that carries it on, or -1 if that isn't whole.
+    def carried(self, half):
+        if half < 15:
+            return half
+        total = half
+        while self.left() > 0:
+            more = self.number(1)
+            total += more
+            if more < 255:
+                return total
+        return -1
+
+
+# What a match stands for. One that reaches into itself says what lies between over and over.
+def matched_bytes(text, back, length):
+    begin = len(text) - back
+    if length <= back:
+        return text[begin:begin + length]
+    return (text[begin:] * (length // back + 1))[:length]
+
+
+# Puts the block's text behind the text that is there, with matches from first on, and tells whether
+# the parts are right and make no more than most bytes. A match is measured before it is written, since
+# a few bytes can ask for very many.
+def unpack_parts(block, text, first, most):
+    longest = len(text) + most
+    reader = Reader(block)
+    while reader.left() > 0:
+        halves = reader.number(1)
+        own = reader.carried(halves >> 4)
+        if own < 0 or own > reader.left():
+            return False
+        text.extend(reader.taken(own))
+        if reader.left() == 0:
+            return len(text) <= longest
+        if reader.left() < 2:
+            return False
+        back = reader.number(2)
+        more = reader.carried(halves & 15)
+        if more < 0 or back == 0 or back > len(text) - first:
+            return False
+        if len(text) + SHORTEST_MATCH + more > longest:
+            return False
+        text.extend(matched_bytes(text, back, SHORTEST_MATCH + more))
+    return False
+
+
+# A frame that is read up to the first that's wrong; each method that reads on tells what that is.
+class FrameReader:
+    def __init__(self, frame):
+        self.reader = Reader(frame)
+        self.flags = 0
+        self.block_size = 0
+        self.length = 0
+        self.text = []
+
+    def says(self, flag):
+        return (self.flags & flag) != 0
+
+    def read_head(self):
+        reader = self.reader
+        if reader.left() < SHORTEST_HEAD or reader.taken(4) != list(FIRST_FOUR):
+            return NO_WHOLE_HEAD
+        summed = reader.taken(2)
+        if (summed[0] & HEAD_FIXED_BITS) != HEAD_VERSION or summed[1] not in BLOCK_SIZES:
+            return WRONG_HEAD
+        self.flags = summed[0]
+        self.block_size = BLOCK_SIZES[summed[1]]
+        if self.says(HEAD_LENGTH):
+            if reader.left() < 9:
+                return NO_WHOLE_HEAD
+            self.length = reader.number(8)
+            summed.extend(low_first(self.length, 8))
+        if reader.number(1) != head_sum(summed):
+            return WRONG_SUM
+        return NOTHING_WRONG
+
+    # The sum is looked at ahead of the parts: of a spoiled block it is said that it's spoiled.
+    def read_block(self, told):
+        length = told % STANDS_FOR_ITSELF
+        with_sum = length + 4 if self.says(HEAD_BLOCK_SUMS) else length
+        if length > self.block_size or with_sum > self.reader.left():
+            return WRONG_BLOCKS
+        block = self.reader.taken(length)
+        if self.says(HEAD_BLOCK_SUMS) and self.reader.number(4) != text_sum(0, block):
+            return WRONG_SUM
+        first = len(self.text) if self.says(HEAD_ALONE) else 0
+        if told >= STANDS_FOR_ITSELF:
+            self.text.extend(block)
+        elif not unpack_parts(block, self.text, first, self.block_size):
+            return WRONG_PARTS
+        return TEXT_TOO_LONG if len(self.text) > LONGEST_TEXT else NOTHING_WRONG
+
+    def read_blocks(self):
+        while self.reader.left() >= 4:
+            told = self.reader.number(4)
+            if told == 0:
+                return NOTHING_WRONG
+            wrong = self.read_block(told)
+            if wrong != NOTHING_WRONG:
+                return wrong
+        return WRONG_BLOCKS
+
+    def read_end(self):
+        if self.reader.left() != (4 if self.says(HEAD_TEXT_SUM) else 0):
+            return WRONG_BLOCKS
+        if self.says(HEAD_TEXT_SUM) and self.reader.number(4) != text_sum(0, self.text):
+            return WRONG_SUM
+        if self.says(HEAD_LENGTH) and self.length != len(self.text):
+            return WRONG_LENGTH
+        return NOTHING_WRONG
+
+    def read_all(self):
+        wrong = self.read_head()
+        if wrong == NOTHING_WRONG:
+            wrong = self.read_blocks()
+        if wrong == NOTHING_WRONG:
+            wrong = self.read_end()
+        return wrong
+
+
+def answered(most, found):
+    if len(found) > most:
+        return [TOO_LONG]
+    return [len(found)] + found
+
+
 def pack(flags, most, text):
     if most < 0 or flags < 0 or flags > MOST_FLAGS:
         return [WRONG_ARGUMENT]
-    frame = framed_text(flags, text)
-    if len(frame) > most:
-        return [TOO_LONG]
-    return [len(frame)] + frame
+    return answered(most, framed_text(flags, text))
+
+
+def unpack(most, frame):
+    if most < 0:
+        return [WRONG_ARGUMENT]
+    reader = FrameReader(frame)
+    wrong = reader.read_all()
+    if wrong != NOTHING_WRONG:
+        return [wrong]
+    return answered(most, reader.text)

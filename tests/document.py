@@ -1,4 +1,4 @@
-"""What the tests lean on: texts, a slow packer written straight from the document, and a strict reader of frames."""
+"""What the tests lean on: texts, and a slow packer and a slow unpacker written straight from the document."""
 
 import functools
 
@@ -31,8 +31,8 @@ def few_letters(count, letters, seed=1):
     return text
 
 
-def xxhash(data):
-    """xxHash of 32 bits, seed 0."""
+def xxhash(data, seed=0):
+    """xxHash of 32 bits."""
     p1, p2, p3, p4, p5 = 2654435761, 2246822519, 3266489917, 668265263, 374761393
     mask = 0xFFFFFFFF
 
@@ -43,9 +43,9 @@ def xxhash(data):
     data = bytes(data)
     at = 0
     if len(data) < 16:
-        h = p5
+        h = seed + p5
     else:
-        lanes = [p1 + p2, p2, 0, -p1]
+        lanes = [seed + p1 + p2, seed + p2, seed, seed - p1]
         while len(data) - at >= 16:
             for lane in range(4):
                 word = int.from_bytes(data[at:at + 4], "little")
@@ -189,3 +189,103 @@ def text_of(flags, frame):
                 text.append(text[source + k])
         assert len(text) - begin <= 65536, "a block has too much text"
     return text
+
+
+class Wrong(Exception):
+    """What's wrong with a frame or a block, by its number."""
+
+    def __init__(self, number):
+        super().__init__(number)
+        self.number = number
+
+
+def require(holds, number):
+    if not holds:
+        raise Wrong(number)
+
+
+class Bytes:
+    """Bytes that are taken one after another; -4 or what else is said where they end too early."""
+
+    def __init__(self, source):
+        self.source = bytes(source)
+
+    def take(self, count, number):
+        require(len(self.source) >= count, number)
+        taken, self.source = self.source[:count], self.source[count:]
+        return taken
+
+    def number(self, count, number):
+        return int.from_bytes(self.take(count, number), "little")
+
+
+def half_read(source, half):
+    total = half
+    if half == 15:
+        more = 255
+        while more == 255:
+            more = source.number(1, -5)
+            total += more
+    return total
+
+
+def block_read(block, before, most):
+    """Points 2 and 3, byte after byte: the block's text, with matches that reach into what stands before it."""
+    source, text = Bytes(block), bytearray(before)
+    while True:
+        high, low = divmod(source.number(1, -5), 16)
+        text += source.take(half_read(source, high), -5)
+        if not source.source:
+            break
+        back = source.number(2, -5)
+        length = half_read(source, low) + 4
+        require(0 < back <= len(text), -5)
+        require(len(text) - len(before) + length <= most, -5)
+        for _ in range(length):
+            text.append(text[-back])
+    require(len(text) - len(before) <= most, -5)
+    return bytes(text[len(before):])
+
+
+def frame_read(frame):
+    """Point 6: the frame's text."""
+    require(len(frame) >= 7, -1)
+    source = Bytes(frame)
+    require(source.take(4, -1) == b"\x04\x22\x4D\x18", -1)
+    flags, other = told = source.take(2, -1)
+    require(flags & 0b11000000 == 0b01000000 and flags & 0b11 == 0, -2)
+    require(other & 0b10001111 == 0 and other >> 4 >= 4, -2)
+    size = {4: 2 ** 16, 5: 2 ** 18, 6: 2 ** 20, 7: 2 ** 22}[other >> 4]
+    length = source.take(8 if flags & 8 else 0, -1)
+    require(source.number(1, -1) == xxhash(told + length) // 256 % 256, -3)
+    text = b""
+    while True:
+        long = source.number(4, -4)
+        if long == 0:
+            break
+        require(long % 2 ** 31 <= size, -4)
+        block = source.take(long % 2 ** 31, -4)
+        if flags & 16:
+            require(source.number(4, -4) == xxhash(block), -3)
+        text += block if long >= 2 ** 31 else block_read(block, b"" if flags & 32 else text, size)
+        require(len(text) <= 1048576, -6)
+    text_sum = source.take(4 if flags & 4 else 0, -4)
+    require(not source.source, -4)
+    require(not flags & 4 or int.from_bytes(text_sum, "little") == xxhash(text), -3)
+    require(not flags & 8 or int.from_bytes(length, "little") == len(text), -9)
+    return text
+
+
+def answer_by_the_document(read, most):
+    """What unpack or unpack_block answers where this reads the text."""
+    try:
+        require(most >= 0, -8)
+        text = read()
+        require(len(text) <= most, -7)
+    except Wrong as wrong:
+        return [wrong.number]
+    return [len(text)] + list(text)
+
+
+def unpack_by_the_document(most, frame):
+    return answer_by_the_document(lambda: frame_read(frame), most)
