@@ -358,3 +358,9 @@ def unpack(most, frame):
     if wrong != NOTHING_WRONG:
         return [wrong]
     return answered(most, reader.text)
+
+
+def pack_block(most, text):
+    if most < 0:
+        return [WRONG_ARGUMENT]
+    return answered(most, packed_parts(SearchedText(text), 0, 0, len(text)))

@@ -4,6 +4,8 @@ import functools
 
 SIXTEEN = range(16)
 MOST = 2147483647
+MARK = list(b"abcdefgh")
+TAIL = list(b"0123456789ij")
 
 
 def bytes_of(number, count):
@@ -29,6 +31,21 @@ def few_letters(count, letters, seed=1):
         state = (state * 1103515245 + 12345) % 2147483648
         text.append((state >> 16) % letters)
     return text
+
+
+def put_mark(text, place, mark, ahead, behind):
+    """The mark between two bytes that stand nowhere else, so that no match reaches past it."""
+    if place > 0:
+        text[place - 1] = ahead
+    text[place:place + len(mark) + 1] = mark + [behind]
+
+
+def marked_twice(first, second):
+    """Noughts with the same mark at two places."""
+    text = [0] * second
+    put_mark(text, first, MARK, 201, 202)
+    put_mark(text, second, MARK, 203, 204)
+    return text + TAIL
 
 
 def xxhash(data, seed=0):
@@ -289,3 +306,8 @@ def answer_by_the_document(read, most):
 
 def unpack_by_the_document(most, frame):
     return answer_by_the_document(lambda: frame_read(frame), most)
+
+
+def block_by_the_document(text):
+    """Point 4: the whole text as one block."""
+    return written(parts_by_the_document(bytes(text), 0, 0, len(text)))

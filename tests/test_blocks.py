@@ -1,33 +1,17 @@
 import unittest
 
-from document import MOST, SIXTEEN, blocks_of, few_letters, frame_by_the_document, no_match, parts_of, text_of
+from document import (MARK, MOST, SIXTEEN, TAIL, blocks_of, few_letters, frame_by_the_document, marked_twice, no_match,
+                      parts_of, put_mark, text_of)
 from shorttexts.blocks import pack
 
 BLOCK = 65536
 LONGEST = 116000
 ALONE = 0
 LINKED = 8
-MARK = list(b"abcdefgh")
-TAIL = list(b"0123456789ij")
 
 
 def packed_blocks(flags, text):
     return blocks_of(flags, pack(flags, MOST, text)[1:])
-
-
-def put_mark(text, place, mark, ahead, behind):
-    """The mark between two bytes that stand nowhere else, so that no match reaches past it."""
-    if place > 0:
-        text[place - 1] = ahead
-    text[place:place + len(mark) + 1] = mark + [behind]
-
-
-def marked_twice(first, second):
-    """Noughts with the same mark at two places."""
-    text = [0] * second
-    put_mark(text, first, MARK, 201, 202)
-    put_mark(text, second, MARK, 203, 204)
-    return text + TAIL
 
 
 class Sizes(unittest.TestCase):

@@ -36,8 +36,12 @@ def calls_of_unpack():
     return [("unpack", most, frame) for frame in frames for most in (MOST, 3, -1)]
 
 
+def calls_of_pack_block():
+    return [("pack_block", most, text) for text in some_texts() for most in (MOST, 3, 0, -1)]
+
+
 def all_calls():
-    return calls_of_pack() + calls_of_unpack()
+    return calls_of_pack() + calls_of_unpack() + calls_of_pack_block()
 
 
 def answer_of(call):
@@ -95,6 +99,7 @@ class Calls(unittest.TestCase):
     def test_the_arguments_are_called_as_told(self):
         self.assertEqual(blocks.pack(flags=0, most=MOST, text=[]), blocks.pack(0, MOST, []))
         self.assertEqual(blocks.unpack(most=MOST, frame=[]), blocks.unpack(MOST, []))
+        self.assertEqual(blocks.pack_block(most=MOST, text=[]), blocks.pack_block(MOST, []))
 
     def test_nothing_is_printed_read_or_imported(self):
         out = io.StringIO()
