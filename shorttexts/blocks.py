@@ -364,3 +364,12 @@ def pack_block(most, text):
     if most < 0:
         return [WRONG_ARGUMENT]
     return answered(most, packed_parts(SearchedText(text), 0, 0, len(text)))
+
+
+def unpack_block(most, block):
+    if most < 0:
+        return [WRONG_ARGUMENT]
+    text = []
+    if not unpack_parts(block, text, 0, LONGEST_TEXT):
+        return [WRONG_PARTS]
+    return answered(most, text)

@@ -311,3 +311,7 @@ def unpack_by_the_document(most, frame):
 def block_by_the_document(text):
     """Point 4: the whole text as one block."""
     return written(parts_by_the_document(bytes(text), 0, 0, len(text)))
+
+
+def unpack_block_by_the_document(most, block):
+    return answer_by_the_document(lambda: block_read(block, b"", 1048576), most)

@@ -5,7 +5,7 @@ import pathlib
 import unittest
 from unittest import mock
 
-from document import MOST, few_letters, frame_by_the_document
+from document import MOST, block_by_the_document, few_letters, frame_by_the_document
 from shorttexts import blocks
 
 PACKAGE = pathlib.Path(blocks.__file__).parent
@@ -40,8 +40,14 @@ def calls_of_pack_block():
     return [("pack_block", most, text) for text in some_texts() for most in (MOST, 3, 0, -1)]
 
 
+def calls_of_unpack_block():
+    made = [[0], [0x10, 4], [0x2F, 1, 2, 1, 0, 255, 7, 0x10, 9], [0x10, 1, 2, 0, 0], [0x10], []]
+    made += [block_by_the_document(text) for text in some_texts()]
+    return [("unpack_block", most, block) for block in made for most in (MOST, 3, 0, -1)]
+
+
 def all_calls():
-    return calls_of_pack() + calls_of_unpack() + calls_of_pack_block()
+    return calls_of_pack() + calls_of_unpack() + calls_of_pack_block() + calls_of_unpack_block()
 
 
 def answer_of(call):
@@ -100,6 +106,7 @@ class Calls(unittest.TestCase):
         self.assertEqual(blocks.pack(flags=0, most=MOST, text=[]), blocks.pack(0, MOST, []))
         self.assertEqual(blocks.unpack(most=MOST, frame=[]), blocks.unpack(MOST, []))
         self.assertEqual(blocks.pack_block(most=MOST, text=[]), blocks.pack_block(MOST, []))
+        self.assertEqual(blocks.unpack_block(most=MOST, block=[0]), blocks.unpack_block(MOST, [0]))
 
     def test_nothing_is_printed_read_or_imported(self):
         out = io.StringIO()
